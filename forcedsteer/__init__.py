@@ -1,0 +1,1 @@
+"""Forcedsteer: works that can be steered, however strong their ties are."""

@@ -1,0 +1,119 @@
+"""The plainest rules of LANGUAGE.md over the files of the package; a first sieve, not all of them."""
+
+import ast
+import unittest
+import warnings
+from pathlib import Path
+
+PACKAGE = Path(__file__).resolve().parent.parent / "forcedsteer"
+FILES = sorted(PACKAGE.glob("**/*.py"))
+BUILTINS = set("""
+    len range enumerate zip min max sum abs sorted reversed int str bool bytes list tuple dict set frozenset
+    isinstance ord repr any all divmod pow getattr hasattr setattr iter next property staticmethod classmethod
+    super Exception ValueError TypeError KeyError IndexError LookupError ZeroDivisionError ArithmeticError
+    OverflowError RuntimeError NotImplementedError AttributeError StopIteration NotImplemented
+""".split())
+BARRED = {"register", "mro", "elements", "open", "input", "law", "version_info", "with_traceback", "add_note"}
+LIBRARY = {"heapq", "math", "itertools", "collections"}
+
+
+def bound_names(tree):
+    """All names that a file binds anywhere."""
+    names = set()
+    for node in ast.walk(tree):
+        if isinstance(node, (ast.FunctionDef, ast.ClassDef)):
+            names.add(node.name)
+        elif isinstance(node, ast.alias):
+            names.add(node.asname or node.name)
+        elif isinstance(node, ast.arg):
+            names.add(node.arg)
+        elif isinstance(node, ast.Name) and not isinstance(node.ctx, ast.Load):
+            names.add(node.id)
+        elif isinstance(node, ast.ExceptHandler) and node.name:
+            names.add(node.name)
+    return names
+
+
+class LanguageTest(unittest.TestCase):
+    def each_file(self, check):
+        """Run this check with the text and the tree of each file."""
+        self.assertTrue(FILES)
+        for path in FILES:
+            with self.subTest(file=path.name):
+                text = path.read_text(encoding="utf-8")
+                check(text, ast.parse(text))
+
+    def each_node(self, check):
+        self.each_file(lambda text, tree: [check(node) for node in ast.walk(tree)])
+
+    def test_the_folder_holds_python_alone(self):
+        for path in PACKAGE.glob("**/*"):
+            if "__pycache__" not in path.parts and path.is_file():
+                self.assertRegex(path.name, r"\A[a-z0-9_]+\.py\Z")
+
+    def test_characters_and_sizes(self):
+        def check(text, tree):
+            self.assertRegex(text, r"\A[ -~\n]*\Z")
+            lines = text.split("\n")
+            self.assertLessEqual(len(lines) - 1, 399)
+            self.assertLessEqual(max(len(line) for line in lines), 120)
+            for node in ast.walk(tree):
+                if isinstance(node, ast.FunctionDef):
+                    self.assertLessEqual(node.end_lineno - node.lineno + 1, 40)
+
+        self.each_file(check)
+
+    def test_python_gives_no_warning(self):
+        def check(text, _):
+            with warnings.catch_warnings():
+                warnings.simplefilter("error")
+                compile(text, "file", "exec")
+
+        self.each_file(check)
+
+    def test_imports(self):
+        def check(text, tree):
+            for node in ast.walk(tree):
+                self.assertNotIsInstance(node, ast.Import)
+                if isinstance(node, ast.ImportFrom):
+                    self.assertIn(node, tree.body)
+                    self.assertEqual(node.level, 0)
+                    self.assertIn(node.module.split(".")[0], LIBRARY | {"forcedsteer"})
+                    self.assertTrue(all(alias.name != "*" for alias in node.names))
+
+        self.each_file(check)
+
+    def test_module_level(self):
+        def check(text, tree):
+            for node in tree.body:
+                self.assertIsInstance(node, (ast.ImportFrom, ast.FunctionDef, ast.ClassDef, ast.Assign, ast.Expr))
+                if isinstance(node, ast.Expr):
+                    self.assertIsInstance(node.value, ast.Constant)
+
+        self.each_file(check)
+
+    def test_names(self):
+        def check(text, tree):
+            bound = bound_names(tree)
+            self.assertFalse(bound & (BUILTINS | BARRED))
+            for node in ast.walk(tree):
+                if isinstance(node, ast.Name) and node.id not in bound:
+                    self.assertIn(node.id, BUILTINS)
+                elif isinstance(node, ast.Attribute):
+                    self.assertNotIn(node.attr, BARRED)
+
+        self.each_file(check)
+
+    def test_values(self):
+        def check(node):
+            self.assertNotIsInstance(node, (ast.Div, ast.Global, ast.AsyncFunctionDef))
+            if isinstance(node, ast.Constant):
+                self.assertNotIsInstance(node.value, (float, complex))
+                if isinstance(node.value, str):
+                    self.assertNotIn("%", node.value)
+
+        self.each_node(check)
+
+
+if __name__ == "__main__":
+    unittest.main()
