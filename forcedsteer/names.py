@@ -1,7 +1,7 @@
-"""What a name is.
+"""What a name is, and what is one of some names.
 
-Both functions take any value. They ask for a string first: comparing or
-hashing a foreign value could run its own code.
+The functions take any value. They ask for a string or a tuple first:
+comparing or hashing a foreign value could run its own code.
 """
 
 _LETTERS = "abcdefghijklmnopqrstuvwxyz"
@@ -19,3 +19,11 @@ def is_name(value):
 def is_among(value, names):
     """Whether any value is one of these names, a tuple of strings."""
     return isinstance(value, str) and value in names
+
+
+def is_pair(value, names):
+    """Whether any value is a pair of different ones of these names."""
+    if not isinstance(value, tuple) or len(value) != 2:
+        return False
+    one, other = value
+    return is_among(one, names) and is_among(other, names) and one != other

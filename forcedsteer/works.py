@@ -2,7 +2,7 @@
 
 from forcedsteer.errors import InvalidParts, InvalidText, InvalidTies, UnknownName
 from forcedsteer.limits import MOST_PARTS
-from forcedsteer.names import is_among, is_name
+from forcedsteer.names import is_among, is_name, is_pair
 
 
 def _check_parts(parts):
@@ -14,14 +14,6 @@ def _check_parts(parts):
             raise InvalidParts(at)
 
 
-def _is_pair(value, parts):
-    """Whether any value is a pair of different parts."""
-    if not isinstance(value, tuple) or len(value) != 2:
-        return False
-    one, other = value
-    return is_among(one, parts) and is_among(other, parts) and one != other
-
-
 def _check_ties(ties, parts):
     """Raise InvalidTies if any value is not the ties of works with these parts."""
     # There are only 56 pairs of eight parts, so a tie too many is always
@@ -29,7 +21,7 @@ def _check_ties(ties, parts):
     if not isinstance(ties, tuple):
         raise InvalidTies(None)
     for at, tie in enumerate(ties):
-        if not _is_pair(tie, parts) or tie in ties[:at]:
+        if not is_pair(tie, parts) or tie in ties[:at]:
             raise InvalidTies(at)
 
 

@@ -34,6 +34,16 @@ def bound_names(tree):
     return names
 
 
+def imported_names(tree):
+    return {alias.asname or alias.name for node in tree.body if isinstance(node, ast.ImportFrom) for alias in node.names}
+
+
+def bound_in_functions(tree):
+    """All names that the functions of a file bind, their parameters among them."""
+    functions = [node for node in ast.walk(tree) if isinstance(node, ast.FunctionDef)]
+    return set().union(*[bound_names(function) - {function.name} for function in functions])
+
+
 class LanguageTest(unittest.TestCase):
     def each_file(self, check):
         """Run this check with the text and the tree of each file."""
@@ -103,6 +113,34 @@ class LanguageTest(unittest.TestCase):
                     self.assertNotIn(node.attr, BARRED)
 
         self.each_file(check)
+
+    def test_no_name_in_a_function_is_that_of_an_import_a_class_or_a_function_of_its_file(self):
+        def check(text, tree):
+            defined = {node.name for node in tree.body if isinstance(node, (ast.FunctionDef, ast.ClassDef))}
+            self.assertFalse(bound_in_functions(tree) & (imported_names(tree) | defined))
+
+        self.each_file(check)
+
+    def test_each_import_names_the_file_that_defines_the_name(self):
+        def check(text, tree):
+            for node in tree.body:
+                if isinstance(node, ast.ImportFrom) and node.module.split(".")[0] == "forcedsteer":
+                    path = PACKAGE.parent.joinpath(*node.module.split(".")).with_suffix(".py")
+                    told = ast.parse(path.read_text(encoding="utf-8"))
+                    for alias in node.names:
+                        self.assertIn(alias.name, bound_names(told) - imported_names(told))
+                        self.assertIsNone(alias.asname)
+                        self.assertFalse(alias.name.startswith("_"))
+
+        self.each_file(check)
+
+    def test_what_classes_that_compare_or_measure_rule_out(self):
+        def check(node):
+            self.assertNotIsInstance(node, (ast.GeneratorExp, ast.Yield, ast.YieldFrom, ast.Lambda))
+            if isinstance(node, ast.Attribute):
+                self.assertNotEqual(node.attr, "sort")
+
+        self.each_node(check)
 
     def test_values(self):
         def check(node):
