@@ -1,6 +1,7 @@
 """Barring: strengths with which leaders do not steer works, and the forts that are the reason."""
 
-from forcedsteer.checks import check_leaders, check_lot, check_strengths, check_works, is_whole
+from forcedsteer.checks import check_leaders, check_lot, check_strengths, check_works
+from forcedsteer.exact import is_whole
 from forcedsteer.forcing import known_lot
 from forcedsteer.lots import all_lots, has, is_single, last_place, least_lots, lot_of, parts_of, pushed_lots, whole_lot
 

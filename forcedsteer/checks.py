@@ -3,15 +3,12 @@
 What is checked may be any value; the works beside it are checked already.
 """
 
-from forcedsteer.errors import InvalidLeaders, InvalidLot, InvalidNumber, InvalidStrengths, NotWorks
+from forcedsteer.errors import InvalidLeaders, InvalidLot, InvalidNumber, InvalidState, InvalidStrengths
+from forcedsteer.errors import NotWorks, UnknownName
+from forcedsteer.exact import first_no_fraction, is_whole
 from forcedsteer.limits import MOST_STRENGTH
 from forcedsteer.names import is_among
 from forcedsteer.works import Works
-
-
-def is_whole(value):
-    """Whether any value is an integer; True and False are none."""
-    return isinstance(value, int) and not isinstance(value, bool)
 
 
 def check_works(works):
@@ -73,3 +70,18 @@ def check_strengths(works, strengths):
     for at, part in enumerate(works.parts):
         if not _is_row(works, part, strengths[at]):
             raise InvalidStrengths(at)
+
+
+def check_state(works, state):
+    """Raise InvalidState if any value is no state of these works."""
+    if not isinstance(state, tuple) or len(state) != len(works):
+        raise InvalidState(None)
+    at = first_no_fraction(state)
+    if at is not None:
+        raise InvalidState(at)
+
+
+def check_part(works, part):
+    """Raise UnknownName if any value is no part of these works."""
+    if not is_among(part, works.parts):
+        raise UnknownName(part)

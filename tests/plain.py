@@ -126,3 +126,100 @@ def lots(works):
     """All lots of parts, each one in order, ordered by how many parts they have, then by the places of these."""
     parts = works.parts
     return [lot for many in range(len(parts) + 1) for lot in itertools.combinations(parts, many)]
+
+
+def numbers(fractions):
+    """Pairs (top, bottom) as Python's fractions."""
+    return [Fraction(top, bottom) for top, bottom in fractions]
+
+
+def written(values):
+    """Python's integers and fractions as pairs (top, bottom)."""
+    return tuple((Fraction(value).numerator, Fraction(value).denominator) for value in values)
+
+
+def are_fractions(value, many):
+    """Whether a value is a tuple of so many fractions."""
+    if type(value) is not tuple or len(value) != many:
+        return False
+    for pair in value:
+        if type(pair) is not tuple or len(pair) != 2 or any(type(number) is not int for number in pair):
+            return False
+        if pair[1] < 1 or (Fraction(*pair).numerator, Fraction(*pair).denominator) != pair:
+            return False
+    return True
+
+
+def day(works, table, leaders, state, push):
+    """The state after a day; the table has integers or pairs."""
+    rows = [[Fraction(*each) if type(each) is tuple else each for each in row] for row in table]
+    before, outside = numbers(state), dict(zip(leaders, numbers(push)))
+    sums = [sum(element * value for element, value in zip(row, before)) for row in rows]
+    return written(value + outside.get(part, 0) for part, value in zip(works.parts, sums))
+
+
+def after(works, strengths, leaders, first, pushes):
+    state = first
+    for push in pushes:
+        state = day(works, strengths, leaders, state, push)
+    return state
+
+
+def can_lead(works, strengths, leaders, first, last, many):
+    """Whether some pushes lead from the one state to the other one in so many days."""
+    noughts, echoes = written([0] * len(works.parts)), []
+    for leader in leaders:
+        state = written(int(part == leader) for part in works.parts)
+        for _ in range(many):
+            echoes.append(numbers(state))
+            state = day(works, strengths, (), state, ())
+    came = after(works, strengths, (), first, ((),) * many)
+    missing = [wanted - value for wanted, value in zip(numbers(last), numbers(came))]
+    if noughts == written(missing):
+        return True
+    return rank_of(echoes + [missing]) == rank_of(echoes)
+
+
+def changed(works, leaders, offers):
+    """The works and leaders with these offers."""
+    parts, ties = works.parts, list(works.ties)
+    for word, *rest in offers:
+        if word == "lead":
+            leaders = leaders + tuple(rest)
+        elif word == "tie":
+            ties.append(tuple(rest))
+        else:
+            ties.remove(tuple(rest))
+    return type(works)(parts, tuple(ties)), leaders
+
+
+def mending(works, leaders, offers):
+    """All sets of offers that do it, as indexes, and those of them that have no other one in them."""
+    places = range(len(offers))
+    sets = [chosen for many in range(len(offers) + 1) for chosen in itertools.combinations(places, many)]
+    enough = []
+    for chosen in sets:
+        mended, more = changed(works, leaders, [offers[at] for at in chosen])
+        if known(mended, more) == works.parts:
+            enough.append(chosen)
+    return enough, least(enough)
+
+
+def ways(works, leaders, doubts):
+    """For each way of the doubtful ties the ties that are there, and the parts that become known."""
+    found = []
+    for bits in itertools.product((False, True), repeat=len(doubts)):
+        there = tuple(itertools.compress(doubts, bits))
+        found.append((there, known(type(works)(works.parts, works.ties + there), leaders)))
+    return found
+
+
+def table_of(works, leaders, seen):
+    """Whether the states before tell the table, and whether some table fits."""
+    befores, every = [], []
+    for before, push, behind in seen:
+        outside = dict(zip(leaders, numbers(push)))
+        told = [value - outside.get(part, 0) for part, value in zip(works.parts, numbers(behind))]
+        befores.append(numbers(before))
+        every.append(numbers(before) + told)
+    return rank_of(befores) == len(works.parts), rank_of(befores) == rank_of(every)

@@ -9,9 +9,9 @@ import samples
 from forcedsteer import errors
 from forcedsteer.works import Works
 from samples import FORK
-from strange import Agreeing, Hostile, catch, nested, strange_values
+from strange import Agreeing, Hostile, catch
+from wrong import ERRORS, RIGHT, put, wrong_values
 
-ZERO = ((0, 0, 0, 0), (1, -1, 0, 0), (-1, 0, -1, 0), (0, 1, 1, 0))
 FUNCTIONS = {
     "forcing": {"forces": "works leaders", "known": "works leaders", "always_steers": "works leaders",
                 "rounds": "works leaders", "are_forces": "works leaders value", "spare": "works leaders"},
@@ -20,11 +20,14 @@ FUNCTIONS = {
     "leading": {"least_leaders": "works", "fewest": "works", "lots_with": "works many", "all_least": "works"},
     "some": {"sometimes_steers": "works leaders", "reached": "works leaders", "good_strengths": "works leaders",
              "fewest_sometimes": "works", "roots": "works"},
+    "days": {"day": "works strengths leaders first push", "after": "works strengths leaders first pushes",
+             "rank": "works strengths leaders", "steers": "works strengths leaders",
+             "lead": "works strengths leaders first last many", "soonest": "works strengths leaders first last"},
+    "mending": {"mending": "works leaders offers", "doubtful": "works leaders doubts",
+                "telling_doubt": "works leaders doubts", "surely_known": "works leaders doubts"},
+    "telling": {"fits": "works strengths leaders seen", "strengths_seen": "works leaders seen",
+                "ties_seen": "works leaders seen"},
 }
-RIGHT = {"works": FORK, "leaders": ("b", "a"), "strengths": ZERO, "parts": ("c", "b"), "many": 2, "value": ()}
-ERRORS = {"works": "NotWorks", "leaders": "InvalidLeaders", "strengths": "InvalidStrengths", "parts": "InvalidLot",
-          "many": "InvalidNumber"}
-NO_PARTS = ["", "e", "A", "ab", "a ", " a", "a\n", "a b", ("a",), ["a"], FORK, *strange_values()]
 
 
 def each_function():
@@ -32,62 +35,6 @@ def each_function():
     for module, told in FUNCTIONS.items():
         for name, parameters in told.items():
             yield getattr(importlib.import_module(f"forcedsteer.{module}"), name), parameters.split()
-
-
-def put(row, at, value):
-    """This tuple with another value at a place."""
-    return row[:at] + (value,) + row[at + 1:]
-
-
-def no_tuples():
-    """Values that are no tuples, of all kinds."""
-    others = ["", "a", "ab", "a b", [], ["a"], ["a", "b"], {"a"}, {"a": 1}, FORK, iter(("a",))]
-    return [value for value in [*others, *strange_values()] if not isinstance(value, tuple)]
-
-
-def wrong_lots():
-    """Values that are no different parts of the fork, each with the index of the first wrong element."""
-    told = [(value, None) for value in no_tuples()]
-    for many, value in itertools.product(range(4), NO_PARTS):
-        lot = ("d", "b", "a", "c")[:many]
-        told += [(lot + (value,), many), (lot + (value, "a", "a"), many), (lot + (value, Hostile()), many)]
-    for one, other in itertools.combinations(range(4), 2):
-        told.append((put(("d", "b", "a", "c"), other, "dbac"[one]), other))
-    told += [(FORK.parts + (value,), 4) for value in NO_PARTS[:9] + list(FORK.parts)]
-    return told + [(("a", "a", ""), 1), (("a", "b", "", "b"), 2), (nested(100), 0), (("a",) * 5000, 1)]
-
-
-def wrong_strengths():
-    """Values that are no strengths of the fork, each with the index of the first wrong row."""
-    told = [(value, None) for value in no_tuples()]
-    rows = [(), ZERO[:3], ZERO + ((0, 0, 0, 0),), ZERO + (Hostile(),), (Hostile(),), (None,) * 5, nested(100)]
-    told += [(value, None) for value in rows]
-    for at, value in itertools.product(range(4), [*strange_values(), "abcd", FORK]):
-        told += [(put(ZERO, at, value), at), (ZERO[:at] + (value,) * (4 - at), at)]
-    for at, place in itertools.product(range(4), range(4)):
-        elements = [10 ** 6 + 1, -10 ** 6 - 1, 10 ** 79, True, False, "1", (1,)]
-        elements += [value for value in strange_values() if type(value) is not int]
-        if at != place:
-            elements += [0] if ZERO[at][place] else [1, -1, 10 ** 6]
-        told += [(put(ZERO, at, put(ZERO[at], place, value)), at) for value in elements]
-    for at, row in enumerate(ZERO):
-        others = [row[:3], row + (0,), list(row), row[1:] + (row,), (row,), ()]
-        told += [(put(ZERO, at, value), at) for value in others]
-    return told
-
-
-def wrong_values(name):
-    """Wrong values for a parameter, each with what the error keeps."""
-    if name == "works":
-        return [(value, value) for value in ["a b\na > b", FORK.parts, (FORK.parts, FORK.ties), Works, [FORK], (FORK,),
-                                             *strange_values()]]
-    if name == "strengths":
-        return wrong_strengths()
-    if name == "many":
-        whole = [value for value in strange_values() if type(value) is int and 0 <= value <= 8]
-        others = [value for value in strange_values() if not any(value is number for number in whole)]
-        return [(value, value) for value in ["2", "", (2,), [2], -1, 9, -9, 10 ** 79, -10 ** 79, *others]]
-    return wrong_lots() + ([((), None)] if name == "parts" else [])
 
 
 class InterfaceTest(unittest.TestCase):
@@ -165,14 +112,16 @@ class WrongArgumentsTest(unittest.TestCase):
             for place, name in enumerate(names):
                 if name == "value":
                     continue
-                for at, told in enumerate(wrong_values(name)):
+                for at, told in enumerate(wrong_values(function.__name__, name)):
                     with self.subTest(function=function.__name__, name=name, at=at):
                         self.check(function, names, place, told)
 
     def test_the_samples_are_many(self):
-        many = {"works": 40, "leaders": 400, "strengths": 500, "parts": 400, "many": 40}
+        many = {"works": 40, "leaders": 400, "strengths": 500, "parts": 400, "many": 40, "first": 500, "last": 500,
+                "push": 400, "pushes": 1000, "seen": 4000, "offers": 5000, "doubts": 4000}
+        self.assertEqual(set(many), set(ERRORS))
         for name, least in many.items():
-            self.assertGreater(len(wrong_values(name)), least)
+            self.assertGreater(len(wrong_values("", name)), least)
 
     def test_values_that_agree_with_everything(self):
         for function, names in each_function():
