@@ -3,7 +3,7 @@
 from forcedsteer.checks import check_leaders, check_part, check_works
 from forcedsteer.errors import InvalidName, InvalidTie, NothingToUndo
 from forcedsteer.forcing import always_steers, known
-from forcedsteer.trials import Trial
+from forcedsteer.trials import Rehearsal
 from forcedsteer.works import Works
 
 
@@ -88,7 +88,7 @@ class Board:
 
     def trial(self):
         """A trial for a with statement: what is done in its block is taken back when it ends."""
-        return Trial(self, None)
+        return Rehearsal(self)
 
     def tried(self, action):
         """What the action returns that is called with the board in a trial."""

@@ -25,6 +25,11 @@ def _first_wrong(works, lot):
     return None
 
 
+def are_leaders(works, value):
+    """Whether any value is leaders of these works."""
+    return isinstance(value, tuple) and _first_wrong(works, value) is None
+
+
 def check_leaders(works, leaders):
     """Raise InvalidLeaders if any value is no leaders of these works."""
     if not isinstance(leaders, tuple):

@@ -17,7 +17,7 @@ def is_name(value):
 
 
 def is_among(value, names):
-    """Whether any value is one of these names, a tuple of strings."""
+    """Whether any value is one of these names, a tuple of strings or a dict with strings as keys."""
     return isinstance(value, str) and value in names
 
 

@@ -1,4 +1,8 @@
-"""Trials: for a with statement, whose block can be taken back as a whole."""
+"""Trials: for a with statement, whose block can be taken back as a whole.
+
+The owner of a trial has an attribute moments, a tuple of all that it has
+been; changes and steps back give it another tuple.
+"""
 
 
 class Kept:
@@ -10,25 +14,39 @@ class Kept:
 
 
 class Trial:
-    """Puts its owner back, when a block ends, to the moments that it had when the block began.
+    """What the two kinds of trials have in common."""
 
-    The owner has an attribute moments, a tuple of all that it has been. With
-    lasting None this is always done, with True only if the block ends with an
-    exception.
-    """
-
-    def __init__(self, owner, lasting):
-        self._owner = owner
-        self._lasting = lasting
+    def __init__(self, owner):
+        self.owner = owner
         # One trial may serve blocks within one another.
-        self._kept = None
+        self.kept = None
+
+    def begin(self):
+        """Keep what the owner is; the owner."""
+        self.kept = Kept(self.owner.moments, self.kept)
+        return self.owner
+
+
+class Rehearsal(Trial):
+    """Puts its owner back in whatever way the block ends."""
 
     def __enter__(self):
-        self._kept = Kept(self._owner.moments, self._kept)
-        return self._owner
+        return self.begin()
 
     def __exit__(self, kind, value, trace):
-        owner = self._owner
-        if kind is not None or self._lasting is None:
-            owner.moments = self._kept.moments
-        self._kept = self._kept.around
+        owner = self.owner
+        owner.moments = self.kept.moments
+        self.kept = self.kept.around
+
+
+class Attempt(Trial):
+    """Puts its owner back only if the block ends with an exception."""
+
+    def __enter__(self):
+        return self.begin()
+
+    def __exit__(self, kind, value, trace):
+        owner = self.owner
+        if kind is not None:
+            owner.moments = self.kept.moments
+        self.kept = self.kept.around

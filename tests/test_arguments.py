@@ -27,6 +27,9 @@ FUNCTIONS = {
                 "telling_doubt": "works leaders doubts", "surely_known": "works leaders doubts"},
     "telling": {"fits": "works strengths leaders seen", "strengths_seen": "works leaders seen",
                 "ties_seen": "works leaders seen"},
+    "certificates": {"certify_leaders": "works leaders", "certify_some": "works leaders",
+                     "certify_fort": "works leaders",
+                     "certify_lead": "works strengths leaders first last many"},
 }
 
 

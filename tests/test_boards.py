@@ -399,7 +399,8 @@ class TriedTest(BoardCase):
 
     def test_actions_within_actions(self):
         board = Board(FORK, ("a",))
-        told = board.tried(lambda one: (one.lead("b"), one.tried(lambda two: (two.leave("a"), two.leaders)), one.leaders))
+        told = board.tried(lambda one: (one.lead("b"), one.tried(lambda two: (two.leave("a"), two.leaders)),
+                                        one.leaders))
         self.assertEqual(told, (None, (None, ("b",)), ("a", "b")))
         self.assertEqual(state_of(board), (FORK.parts, FORK.ties, ("a",), 0))
 

@@ -35,7 +35,8 @@ def bound_names(tree):
 
 
 def imported_names(tree):
-    return {alias.asname or alias.name for node in tree.body if isinstance(node, ast.ImportFrom) for alias in node.names}
+    imports = [node for node in tree.body if isinstance(node, ast.ImportFrom)]
+    return {alias.asname or alias.name for node in imports for alias in node.names}
 
 
 def bound_in_functions(tree):
@@ -139,6 +140,38 @@ class LanguageTest(unittest.TestCase):
             self.assertNotIsInstance(node, (ast.GeneratorExp, ast.Yield, ast.YieldFrom, ast.Lambda))
             if isinstance(node, ast.Attribute):
                 self.assertNotEqual(node.attr, "sort")
+
+        self.each_node(check)
+
+    def test_what_a_class_that_is_indexed_rules_out(self):
+        def check(text, tree):
+            for word in ("(type)", "Meta", "metaclass="):
+                self.assertNotIn(word, text)
+            for node in ast.walk(tree):
+                if isinstance(node, ast.Attribute):
+                    self.assertNotEqual(node.attr, "keys")
+                elif isinstance(node, ast.ClassDef):
+                    names = [each.name for each in node.body if isinstance(each, ast.FunctionDef)]
+                    self.assertNotIn("keys", names)
+                    self.assertTrue("__getitem__" not in names or "__iter__" in names)
+
+        self.each_file(check)
+
+    def test_only_errors_of_the_package_are_caught(self):
+        own = bound_names(ast.parse((PACKAGE / "errors.py").read_text(encoding="utf-8")))
+
+        def check(node):
+            if isinstance(node, ast.ExceptHandler):
+                kinds = node.type.elts if isinstance(node.type, ast.Tuple) else [node.type]
+                self.assertTrue({kind.id for kind in kinds} <= own)
+
+        self.each_node(check)
+
+    def test_what_ends_a_with_block_only_assigns(self):
+        def check(node):
+            if isinstance(node, ast.FunctionDef) and node.name == "__exit__":
+                for inner in ast.walk(node):
+                    self.assertNotIsInstance(inner, (ast.Call, ast.Raise, ast.Return, ast.BinOp, ast.Subscript))
 
         self.each_node(check)
 

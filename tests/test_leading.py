@@ -36,7 +36,8 @@ class ShapesTest(unittest.TestCase):
     def test_stars_and_parts_that_gather(self):
         for many in range(2, 9):
             parts = NAMES[:many]
-            self.check(samples.star(many), tuple(parts[:1] + lot for lot in itertools.combinations(parts[1:], many - 2)))
+            self.check(samples.star(many),
+                       tuple(parts[:1] + lot for lot in itertools.combinations(parts[1:], many - 2)))
             self.check(samples.gathering(many), (parts[1:],))
 
     def test_all_tied_and_without_ties(self):

@@ -182,7 +182,8 @@ class DoubtsTest(unittest.TestCase):
         doubts = (("b", "c"), ("d", "a"), ("a", "d"), ("c", "a"), ("d", "b"), ("d", "c"))
         for call in (doubtful, telling_doubt, surely_known):
             call(FORK, ("a",), doubts)
-            for wrong, at in ((doubts + (("c", "b"),), 6), (doubts[:2] + (("a", "b"),), 2), (doubts[:3] + doubts[1:2], 3)):
+            wrong_ones = [(doubts + (("c", "b"),), 6), (doubts[:2] + (("a", "b"),), 2), (doubts[:3] + doubts[1:2], 3)]
+            for wrong, at in wrong_ones:
                 error = catch(self, InvalidDoubts, lambda value=wrong, ask=call: ask(FORK, ("a",), value))
                 self.assertEqual(error.index, at)
 

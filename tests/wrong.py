@@ -23,9 +23,9 @@ ERRORS = {"works": "NotWorks", "leaders": "InvalidLeaders", "strengths": "Invali
 NO_PARTS = ["", "e", "A", "ab", "a ", " a", "a\n", "a b", ("a",), ["a"], FORK, *strange_values()]
 NO_FRACTIONS = [
     (1,), (1, 0), (0, 0), (1, -1), (0, -1), (-1, -2), (2, 2), (0, 2), (2, 4), (-3, 3), (6, -3), (10 ** 79, 10),
-    (True, 1), (1, True), (False, 1), (1, False), (0, True), [1, 1], (1, 1, 1), ("1", 1), (1, "1"), (None, 1), (1, None),
-    ((1, 1), 1), (1, (1, 1)), ((1, 1),), ((1, 1), (1, 1)), (Hostile(), 1), (1, Hostile()), (Agreeing(), Agreeing()),
-    "1", "11", "1/1", ("1", "1"), {1: 1}, FORK, *strange_values(),
+    (True, 1), (1, True), (False, 1), (1, False), (0, True), [1, 1], (1, 1, 1), ("1", 1), (1, "1"), (None, 1),
+    (1, None), ((1, 1), 1), (1, (1, 1)), ((1, 1),), ((1, 1), (1, 1)), (Hostile(), 1), (1, Hostile()),
+    (Agreeing(), Agreeing()), "1", "11", "1/1", ("1", "1"), {1: 1}, FORK, *strange_values(),
 ]
 
 
@@ -171,7 +171,7 @@ def wrong_values(function, name):
     if name in ("first", "last", "push"):
         return wrong_fractions(RIGHT[name])
     if name == "many":
-        return wrong_numbers(12 if function == "lead" else 8)
+        return wrong_numbers(8 if function == "lots_with" else 12)
     if name in ("works", "strengths"):
         return wrong_works() if name == "works" else wrong_strengths()
     return wrong_lots() + ([((), None)] if name == "parts" else [])
